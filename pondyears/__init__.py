@@ -1,0 +1,1 @@
+"""Plants on a round pond, season by season."""
