@@ -1,6 +1,11 @@
 """The calls on a pond, handed in and answered as one list of whole numbers."""
 
+from pondyears.course import Course, grazed_in_year, settled
 from pondyears.state import State
+
+# A tail and round of together more turns than this are not told.
+LONGEST = 600
+FARTHEST = 1000000000000000000
 
 
 def all_within(numbers, least, greatest):
@@ -104,6 +109,68 @@ def call_book(state, numbers, row):
     return [0, state.first, state.grown, state.died, state.grazed, sum(state.cells)]
 
 
+def call_far(state, numbers, row):
+    n = numbers[0]
+    if not 0 <= n <= FARTHEST:
+        return [-7]
+    course = Course(state, min(n, LONGEST))
+    if n > LONGEST and course.tail is None:
+        return [-8]
+    return [0] + course.cells_at(n)
+
+
+def call_round(state, numbers, row):
+    course = Course(state, LONGEST)
+    if course.tail is None:
+        return [-8]
+    return [course.tail, course.turns_of_round()]
+
+
+def years_and_cells(state, units):
+    end = settled(state, state.wants, units)
+    return [end[0]] + end[1]
+
+
+def call_greatest(state, numbers, row):
+    return years_and_cells(state, state.most)
+
+
+def call_least(state, numbers, row):
+    return years_and_cells(state, 0)
+
+
+def call_one(state, numbers, row):
+    greatest = settled(state, state.wants, state.most)
+    least = settled(state, state.wants, 0)
+    return [1 if greatest[1] == least[1] else 0]
+
+
+def call_below(state, numbers, row):
+    if not fits_cells(state, row, state.most):
+        return [-6]
+    for k, v in enumerate(state.cells):
+        if v > row[k]:
+            return [0, k]
+    return [1]
+
+
+def call_move(state, numbers, row):
+    dx = numbers[0]
+    dy = numbers[1]
+    if not all_within([dx, dy], 0, 7):
+        return [-7]
+    state.move(dx, dy)
+    return [0]
+
+
+def call_yield_of(state, numbers, row):
+    if not fits_cells(state, row, 100):
+        return [-6]
+    wants = [row] * state.p
+    cells = settled(state, wants, state.most)[1]
+    return [grazed_in_year(state, wants, cells), sum(cells)]
+
+
 # By a call's number: how many whole numbers it has, whether a row follows them, and what it does.
 CALLS = {
     0: (4, False, call_pond),
@@ -115,6 +182,14 @@ CALLS = {
     6: (0, False, call_cells),
     7: (1, False, call_turns),
     8: (0, False, call_book),
+    9: (1, False, call_far),
+    10: (0, False, call_round),
+    11: (0, False, call_greatest),
+    12: (0, False, call_least),
+    13: (0, False, call_one),
+    14: (0, True, call_below),
+    15: (2, False, call_move),
+    16: (0, True, call_yield_of),
 }
 
 

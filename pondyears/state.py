@@ -14,6 +14,12 @@ def neighbours(w, h):
     return around
 
 
+def moved(row, w, dx, dy):
+    """What stands dx to the right and dy below, round the pond, cell by cell."""
+    h = len(row) // w
+    return [row[(k // w + dy) % h * w + (k % w + dx) % w] for k in range(len(row))]
+
+
 def grow(cells, table):
     return [table[v] for v in cells]
 
@@ -41,6 +47,8 @@ def gained(before, after):
 
 class State:
     def __init__(self):
+        # What years came to, so that none is gone through twice; not part of what there is.
+        self.known = {}
         self.new_pond(1, 1, 1, 1)
 
     def new_pond(self, w, h, most, p):
@@ -60,6 +68,10 @@ class State:
         self.grown = 0
         self.died = 0
         self.grazed = 0
+
+    def move(self, dx, dy):
+        self.cells = moved(self.cells, self.w, dx, dy)
+        self.wants = [moved(row, self.w, dx, dy) for row in self.wants]
 
     def turn(self):
         full = grow(self.cells, self.tables[self.season])

@@ -3,7 +3,8 @@
 import random
 import unittest
 
-from helper import BOOK, CELLS, EXTREMES, LOOK, TOLD, Model, PondCase, ask, get, graze, pond, put, table, turns
+from helper import (BOOK, CELLS, EXTREMES, FARTHEST, GREATEST, LEAST, LOOK, ONE, PULSE, ROUND, SLOW, TOLD, Model,
+                    PondCase, ask, below, far, get, graze, move, pond, put, some_pond, table, turns, yield_of)
 
 
 def number_near(draw, low, high):
@@ -33,9 +34,35 @@ def table_near(draw, most):
     return row
 
 
+def row_about(draw, row, high):
+    """Mostly what the row holds or a little more, seldom less."""
+    return [min(high, max(0, v + draw.choice((0, 0, 1, 2, high) * 3 + (-1,)))) for v in row]
+
+
+def some_question(draw, model):
+    """One of the calls far to yield, which go through a course or through years."""
+    size = model.w * model.h
+    kind = draw.randrange(10)
+    if kind == 0:
+        return far(number_near(draw, 0, FARTHEST))
+    if kind == 1:
+        return far(draw.choice((0, 1, 599, 600, 601, draw.randint(0, 50), draw.randint(500, 2000))))
+    if kind == 2:
+        return below(row_near(draw, size, model.most))
+    if kind == 3:
+        return below(row_about(draw, model.cells()[1:], model.most))
+    if kind == 4:
+        return move(number_near(draw, 0, 7), number_near(draw, 0, 7))
+    if kind == 5:
+        return yield_of(row_near(draw, size, draw.choice((1, 3, model.most, 100))))
+    return (ROUND, GREATEST, LEAST, ONE)[kind - 6]
+
+
 def some_call(draw, model):
     size = model.w * model.h
-    kind = draw.randrange(20)
+    kind = draw.randrange(32)
+    if kind >= 20:
+        return some_question(draw, model)
     if kind == 0:
         return pond(number_near(draw, 1, 6), number_near(draw, 1, 6), number_near(draw, 1, 60),
                     number_near(draw, 1, 8))
@@ -56,24 +83,41 @@ def some_call(draw, model):
 
 
 def some_calls(seed):
-    """A list of calls with the model's answers."""
+    """A list of calls with the model's answers, begun with no pond of its own or with one that has a course to it."""
     draw = random.Random(seed)
     model = Model()
-    calls = []
-    expected = []
+    calls = list(([], PULSE, SLOW, some_pond(draw), some_pond(draw))[seed % 5])
+    expected = [model.answer(call) for call in calls]
     for _ in range(60):
         calls.append(some_call(draw, model))
         expected.append(model.answer(calls[-1]))
     return calls + LOOK, expected + [model.answer(call) for call in LOOK]
 
 
+def some_questions(seed):
+    """Questions alone, with turns and moves between, so that the pond stays the same."""
+    draw = random.Random(seed)
+    model = Model()
+    calls = some_pond(draw)
+    expected = [model.answer(call) for call in calls]
+    for _ in range(30):
+        calls.append(some_question(draw, model) if draw.randrange(3) else turns(draw.randint(0, 7)))
+        expected.append(model.answer(calls[-1]))
+    return calls + LOOK, expected + [model.answer(call) for call in LOOK]
+
+
 class HeldAgainstTheModel(PondCase):
+    def check_list(self, seed, calls, expected):
+        for k, answer in enumerate(ask(*calls)):
+            self.assertEqual(answer, expected[k], (seed, k, calls[k]))
+
     def test_lists_of_all_calls(self):
-        for seed in range(120):
-            calls, expected = some_calls(seed)
-            got = ask(*calls)
-            for k, answer in enumerate(got):
-                self.assertEqual(answer, expected[k], (seed, k, calls[k]))
+        for seed in range(150):
+            self.check_list(seed, *some_calls(seed))
+
+    def test_lists_of_questions(self):
+        for seed in range(3000, 3100):
+            self.check_list(seed, *some_questions(seed))
 
     def test_a_large_pond_for_a_thousand_turns(self):
         draw = random.Random(2026)

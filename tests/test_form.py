@@ -4,6 +4,7 @@ The rules' numbers (L1 to L28) are those of LANGUAGE.md. What is checked here is
 """
 
 import ast
+import builtins
 import pathlib
 import re
 import unittest
@@ -112,8 +113,7 @@ class Form(unittest.TestCase):
             bound = set(bound_names(tree))
             for name in bound - set(TWO_UNDERSCORES):
                 self.assertRegex(name, r"^[A-Za-z][A-Za-z0-9_]*$", f"L12 {path.name}")
-                self.assertNotIn(name, BUILT_IN + ["hash", "next", "map", "filter", "iter", "object"],
-                                 f"L15 {path.name}")
+                self.assertNotIn(name, dir(builtins), f"L15 {path.name}")
             for node in ast.walk(tree):
                 if isinstance(node, ast.Name):
                     self.assertIn(node.id, bound | set(BUILT_IN), f"L8 {path.name}:{node.lineno}")
@@ -123,6 +123,22 @@ class Form(unittest.TestCase):
         for where, node in walk_all():
             if isinstance(node, ast.Call) and isinstance(node.func, ast.Attribute):
                 self.assertIn(node.func.attr, own | set(METHODS), f"L25 {where}")
+
+    def test_methods_and_values_of_objects(self):
+        methods = {}
+        values = set()
+        for where, node in walk_all():
+            if isinstance(node, ast.ClassDef):
+                for step in node.body:
+                    self.assertIsInstance(step, ast.FunctionDef, f"L5 {where}")
+                    self.assertNotIn((node.name, step.name), methods, f"L18 {where}")
+                    methods[node.name, step.name] = True
+            if isinstance(node, ast.Attribute) and isinstance(node.ctx, ast.Store):
+                values.add(node.attr)
+        self.assertEqual(values & {name for owner, name in methods}, set(), "L18")
+        own_of_python = {name for kind in (str, int, list, dict, set, bytes) for name in dir(kind)}
+        for name in values | {name for owner, name in methods if name not in TWO_UNDERSCORES}:
+            self.assertNotIn(name, own_of_python, "L26")
 
     def test_imports(self):
         for path, tree in trees().items():

@@ -4,10 +4,18 @@ import contextlib
 import io
 import unittest
 
-from helper import (BOOK, CELLS, LOOK, MIDWAY, TOLD, PondCase, ask, get, graze, joined, last, pond, put, table, turns)
+from helper import (BOOK, CELLS, FARTHEST, GREATEST, LEAST, LOOK, MIDWAY, ONE, PULSE, ROUND, SLOW, TOLD, PondCase, ask,
+                    below, far, get, graze, joined, last, move, pond, put, table, turns, yield_of)
 from pondyears.pond import answers
 
-WITH_REFUSALS = joined(MIDWAY + [pond(7, 1, 1, 1), table(0, []), graze(3, []), put([1]), get(3, 0), turns(-1)] + LOOK)
+REFUSED = [pond(7, 1, 1, 1), table(0, []), graze(3, []), put([1]), get(3, 0), turns(-1), far(-1), below([]), move(8, 0),
+           yield_of([101] * 6)]
+ASKED = [far(5), far(FARTHEST), ROUND, GREATEST, LEAST, ONE, below([9] * 6), below([0] * 6),
+         yield_of([0, 1, 2, 3, 100, 0])]
+WITH_REFUSALS = joined(MIDWAY + REFUSED + LOOK + ASKED + [move(7, 6)] + LOOK + ASKED + SLOW + [far(601), ROUND] + LOOK)
+
+# Each of the calls that came later, alone in its list.
+LATER = [far(601), ROUND, GREATEST, LEAST, ONE, below([0]), move(7, 7), yield_of([100])]
 
 
 class KeptAsItIs(list):
@@ -27,9 +35,24 @@ class OneList(PondCase):
                                           12, 0, 2, 1, 3, 1, 0, 0, 1, 2, 3, 0, 100,
                                           6, 0, 4, 0, 0, 1, 3])
 
+    def test_counts_and_answers_of_the_later_calls(self):
+        # Of 3 units in one of two cells 2 go to the other, and from then on one goes to and fro.
+        calls = [0, 1, 2, 3, 1, 3, 2, 3, 0, 9, 0, 9, 601, 10, 11, 12, 13, 14, 2, 3, 0, 14, 2, 2, 3, 15, 0, 1, 6,
+                 16, 2, 1, 0, 16, 0, 16, 2, 0, 101, 9, -1, 15, 8, 0, 14, 1, 0, 8]
+        self.assertEqual(answers(calls), [1, 0, 1, 3, 3, 0, 3, 0, 3, 0, 1, 2, 2, 1, 2, 3, 0, 3, 3, 3, 0, 0, 0, 1, 0,
+                                          1, 1, 2, 0, 0, 1, 0, 3, 0, 0, 3, 2, 0, 1, 1, -6, 1, -6, 1, -7, 1, -7, 1, -6,
+                                          6, 0, 3, 0, 0, 0, 3])
+
+    def test_a_refusal_on_the_way_round(self):
+        self.assertEqual(answers(joined(SLOW) + [9, 601, 10, 9, 600, 7, 1, 10])[6:],
+                         [1, -8, 1, -8, 3, 0, 1, 0, 1, 75, 2, 592, 8])
+
     def test_a_row_with_numbers_like_calls_is_still_a_row(self):
         self.assertEqual(ask(put([0, 6, 6, 60, 8]), table(0, [4, 8]), graze(5, [0, 1, 1, 1, 1]), CELLS),
                          [[-6], [-5], [-4], [0, 0]])
+        self.assertEqual(ask(below([0, 6, 6, 60, 8]), yield_of([13, 13]), far(10), move(7, 6), below([1]),
+                             yield_of([16])),
+                         [[-6], [-6], [0, 0], [0], [1], [0, 0]])
 
     def test_four_hundred_calls(self):
         setting = [pond(1, 1, 60, 1), table(0, [*range(1, 61), 60])]
@@ -38,8 +61,17 @@ class OneList(PondCase):
         self.assertEqual(got[2:-1], [[min(n, 60)] for n in range(1, 398)])
         self.assertEqual(got[-1], [0, 0, 60, 0, 0, 60])
 
+    def test_four_hundred_of_the_later_calls(self):
+        setting = PULSE + [put([1, 0, 0, 0, 0, 3])]
+        asked = [far(FARTHEST), ROUND, GREATEST, LEAST, ONE, below([3] * 6), yield_of([0] * 6), move(6, 7)]
+        got = ask(*setting, *asked * 49)[6:]
+        self.assertEqual(len(got), 392)
+        self.assertEqual(got, got[:8] * 49)
+        self.assertEqual(got[1:3] + got[4:6] + got[7:8], [[0, 6], [1, 1, 3, 1, 3, 1, 3], [0], [1], [0]])
+
     def test_long_lists(self):
-        for call, refusal in ((table(0, [0] * 15900), -5), (graze(0, [0] * 15900), -6), (put([0] * 15900), -6)):
+        for call, refusal in ((table(0, [0] * 15900), -5), (graze(0, [0] * 15900), -6), (put([0] * 15900), -6),
+                              (below([0] * 15900), -6), (yield_of([0] * 15900), -6)):
             self.assertEqual(ask(pond(2, 2, 3, 1), put([1, 2, 3, 1]), call, CELLS)[2:], [[refusal], [0, 1, 2, 3, 1]])
 
     def test_whole_numbers_alone(self):
@@ -50,13 +82,13 @@ class OneList(PondCase):
 
 class NothingIsChanged(PondCase):
     def test_the_list_is_the_same_afterwards(self):
-        for calls in (joined(MIDWAY), WITH_REFUSALS, [4]):
+        for calls in (joined(MIDWAY), joined(MIDWAY + ASKED), WITH_REFUSALS, [4], *LATER):
             handed = list(calls)
             answers(handed)
             self.assertEqual(handed, calls)
 
     def test_not_for_a_while_either(self):
-        for calls in (joined(MIDWAY), WITH_REFUSALS, [4]):
+        for calls in (joined(MIDWAY), joined(MIDWAY + ASKED), WITH_REFUSALS, [4], *LATER):
             self.assertEqual(answers(KeptAsItIs(calls)), answers(calls))
 
     def test_nothing_is_printed(self):
@@ -68,15 +100,18 @@ class NothingIsChanged(PondCase):
 
 class NothingIsKept(PondCase):
     def test_a_second_time_answers_the_same(self):
-        for calls in (joined(MIDWAY + LOOK), WITH_REFUSALS, [4], [6], [8]):
+        for calls in (joined(MIDWAY + LOOK), joined(MIDWAY + ASKED), WITH_REFUSALS, [4], [6], [8], *LATER):
             once = answers(list(calls))
             self.assertEqual(answers(list(calls)), once)
 
     def test_every_list_begins_with_the_first_pond(self):
-        for calls in (MIDWAY, [pond(6, 6, 60, 8)], [put([1])], [table(0, [1, 1]), graze(0, [7]), turns(3)]):
+        for calls in (MIDWAY, [pond(6, 6, 60, 8)], [put([1])], [table(0, [1, 1]), graze(0, [7]), turns(3)],
+                      [table(0, [1, 1]), GREATEST, LEAST, ONE, yield_of([1]), far(601), ROUND, move(1, 1)]):
             ask(*calls)
             self.assertEqual(ask(TOLD, CELLS, BOOK),
                              [[0, 1, 1, 1, 1, 0, 0, 1, 0], [0, 0], [0, 0, 0, 0, 0, 0]])
+            self.assertEqual(ask(GREATEST, LEAST, ONE, ROUND, far(601), yield_of([1])),
+                             [[0, 1], [0, 0], [0], [0, 1], [0, 0], [0, 0]])
 
     def test_what_was_given_back_may_be_changed(self):
         first = answers(list(WITH_REFUSALS))

@@ -2,8 +2,8 @@
 
 import unittest
 
-from helper import (BOOK, CELLS, EXTREMES, LOOK, MIDWAY, TOLD, PondCase, ask, get, graze, last, pond, put, table,
-                    turns)
+from helper import (BOOK, CELLS, EXTREMES, GREATEST, LEAST, LOOK, MIDWAY, ONE, ROUND, TOLD, PondCase, ask, below, far,
+                    get, graze, last, move, pond, put, table, turns, yield_of)
 
 
 class BeforeTheFirstCall(PondCase):
@@ -21,6 +21,14 @@ class BeforeTheFirstCall(PondCase):
         self.assertEqual(ask(CELLS), [[0, 0]])
         self.assertEqual(ask(turns(1000)), [[0]])
         self.assertEqual(ask(BOOK), [[0, 0, 0, 0, 0, 0]])
+        self.assertEqual(ask(far(1000000000000000000)), [[0, 0]])
+        self.assertEqual(ask(ROUND), [[0, 1]])
+        self.assertEqual(ask(GREATEST), [[0, 1]])
+        self.assertEqual(ask(LEAST), [[0, 0]])
+        self.assertEqual(ask(ONE), [[0]])
+        self.assertEqual(ask(below([0])), [[1]])
+        self.assertEqual(ask(move(7, 7)), [[0]])
+        self.assertEqual(ask(yield_of([100])), [[0, 0]])
 
     def test_each_refusal_alone(self):
         self.assertEqual(ask(pond(0, 1, 1, 1)), [[-1]])
@@ -33,6 +41,10 @@ class BeforeTheFirstCall(PondCase):
         self.assertEqual(ask(put([2])), [[-6]])
         self.assertEqual(ask(get(1, 0)), [[-6]])
         self.assertEqual(ask(turns(-1)), [[-7]])
+        self.assertEqual(ask(far(1000000000000000001)), [[-7]])
+        self.assertEqual(ask(below([2])), [[-6]])
+        self.assertEqual(ask(move(0, 8)), [[-7]])
+        self.assertEqual(ask(yield_of([101])), [[-6]])
 
     def test_it_is_a_pond_like_any_other(self):
         got = ask(table(0, [1, 1]), turns(3), BOOK, graze(0, [1]), turns(2), TOLD, CELLS, BOOK)

@@ -2,7 +2,8 @@
 
 import unittest
 
-from helper import (BOOK, CELLS, EXTREMES, MIDWAY, TOLD, PondCase, ask, graze, last, pond, put, table, turns)
+from helper import (BOOK, CELLS, EXTREMES, MIDWAY, TOLD, TWO_CELLS, PondCase, ask, graze, last, pond, put, table,
+                    turns)
 
 # What v units give: to the left, to the right, up, down, and what is kept.
 SHARES = {
@@ -103,17 +104,8 @@ class ThreeSteps(PondCase):
 
 
 class Seasons(PondCase):
-    YEAR = [
-        pond(2, 1, 10, 2),
-        table(0, [0, 2, 4, 6, 8, 10, 10, 10, 10, 10, 10]),
-        table(1, [0, 0, 1, 2, 3, 4, 5, 6, 7, 8, 9]),
-        graze(0, [3, 0]),
-        graze(1, [0, 100]),
-        put([4, 1]),
-    ]
-
     def test_two_years_by_hand(self):
-        got = ask(*self.YEAR, *[turns(1), CELLS, BOOK] * 4)[6:]
+        got = ask(*TWO_CELLS, *[turns(1), CELLS, BOOK] * 4)[6:]
         self.assertEqual(got, [[7], [0, 3, 4], [0, 5, 5, 0, 3, 7],
                                [2], [0, 2, 0], [0, 5, 5, 2, 6, 2],
                                [1], [0, 1, 0], [0, 5, 7, 2, 9, 1],
@@ -188,7 +180,7 @@ class Books(PondCase):
                 self.assertEqual(now, sum(cells))
 
     def test_units_at_first_stay_while_turns_go_by(self):
-        books = ask(*Seasons.YEAR, *[turns(3), BOOK] * 5)[7::2]
+        books = ask(*TWO_CELLS, *[turns(3), BOOK] * 5)[7::2]
         self.assertEqual([book[1] for book in books], [5] * 5)
 
 
